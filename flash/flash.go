@@ -24,7 +24,7 @@ func Check(f api.Flash) api.Errno {
 	if long == 0 || long%api.Sector != 0 || long > api.MaxSectors*api.Sector {
 		return api.ErrForm
 	}
-	if f.Fuel < -1 || f.Fuel > api.MaxTime || !allWords(f.Words...) {
+	if f.Fuel < -1 || f.Fuel > api.MaxTime || !AllWords(f.Words...) {
 		return api.ErrRange
 	}
 	return api.OK
@@ -55,7 +55,7 @@ func Program(f api.Flash, at int, words []int) (api.Flash, api.Errno) {
 	if !fits(f, at, len(words)) {
 		return api.Flash{}, api.ErrWho
 	}
-	if !allWords(words...) {
+	if !AllWords(words...) {
 		return api.Flash{}, api.ErrRange
 	}
 	own := twin(f)
@@ -74,7 +74,8 @@ func Read(f api.Flash, at, n int) ([]int, api.Errno) {
 	return twinWords(f.Words[at : at+n]), api.OK
 }
 
-func allWords(numbers ...int) bool {
+// AllWords is there for the layers below, too, so that all of them mean the same by a word.
+func AllWords(numbers ...int) bool {
 	return !slices.ContainsFunc(numbers, func(n int) bool { return n < 0 || n > api.MaxWord })
 }
 

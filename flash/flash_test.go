@@ -130,6 +130,17 @@ func TestCheck(t *testing.T) {
 	wantErrno(t, "words erased", Check(api.Flash{Words: filled(api.Sector, api.MaxWord)}), api.OK)
 }
 
+func TestAllWords(t *testing.T) {
+	if !AllWords() || !AllWords(0) || !AllWords(3, 0, api.MaxWord) {
+		t.Error("words, or none at all, are no words")
+	}
+	for _, wrong := range []int{-1, api.MaxWord + 1, math.MinInt, math.MaxInt} {
+		if AllWords(wrong) || AllWords(wrong, 1) || AllWords(1, wrong) {
+			t.Errorf("%d is a word", wrong)
+		}
+	}
+}
+
 func TestSame(t *testing.T) {
 	f := patterned(2, 9)
 	other := patterned(2, 9)
