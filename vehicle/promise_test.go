@@ -435,7 +435,7 @@ func TestLateMessages(t *testing.T) {
 	}
 }
 
-// TestEachOrder goes through all that can happen to a vehicle of small images, in each order, as long as few messages are on their way; each vehicle that comes of it can settle. What is the same vehicle again is not gone on from.
+// TestEachOrder goes through all that can happen to a vehicle of small images, in each order, as long as few messages are on their way; of the vehicles that come of it each seventh, as all would take long, is told to settle. What is the same vehicle again is not gone on from.
 func TestEachOrder(t *testing.T) {
 	t.Parallel()
 	for _, c := range []struct{ units, campaigns, most int }{{1, 2, 3}, {2, 1, 2}} {
